@@ -290,13 +290,10 @@ func TestFollows(t *testing.T) {
 			a = m.beginning(a)
 		}
 		for _, l := range []list{a, b, nil} {
+			wantThroughNone(t, "what is made", l)
 			for _, broken := range []bool{false, true} {
 				wantRewritten(t, "by TermSame", sames(len(l)), l, broken, l)
-				got, e := leak.Through(nil, l, 7, broken)
-				if e != api.OK || !leak.Same(got, l) {
-					t.Fatal(e, got, l)
-				}
-				got, e = leak.Through([][]api.Term{sames(len(l)), sames(len(l))}, l, 7, broken)
+				got, e := leak.Through([][]api.Term{sames(len(l)), sames(len(l))}, l, 7, broken)
 				if e != api.OK || !leak.Same(got, l) {
 					t.Fatal(e, got, l)
 				}
@@ -310,6 +307,34 @@ func TestFollows(t *testing.T) {
 		}
 		if leak.Count(append(slices.Clone(a), b...)) != leak.Count(a)+leak.Count(b) {
 			t.Fatal("Count of two lists")
+		}
+	}
+}
+
+// P2.5: Through of none is what it was, though a rewriting would refuse it (P2.3: that one's error is told first).
+func TestThroughNone(t *testing.T) {
+	wantThroughNone(t, "nothing", nil)
+	wantThroughNone(t, "an empty list", list{})
+	for what, n := range badNodes() {
+		for where, l := range standing(n) {
+			wantThroughNone(t, what+" "+where, l)
+			wantRefused(t, what+" "+where, sames(len(l)), l, false, api.ErrArg)
+		}
+	}
+	for what, c := range sizes() {
+		wantThroughNone(t, "what is "+what, c.l)
+	}
+	wantRefused(t, "one list that is empty", nil, list{{}}, false, api.ErrArg)
+}
+
+// DOC.md, rules: what Through of none answers is in new memory, though it may not be.
+func TestThroughNoneMemory(t *testing.T) {
+	want := badNodes()
+	for what, n := range badNodes() {
+		for where, l := range standing(n) {
+			got, _ := leak.Through(nil, l, 0, false)
+			spoil(got)
+			wantSame(t, what+" "+where, l, standing(want[what])[where])
 		}
 	}
 }

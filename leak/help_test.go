@@ -100,3 +100,15 @@ func wantRefused(t *testing.T, what string, l []api.Term, of list, broken bool, 
 		t.Errorf("Through of %s: %v, and %d nodes; not %v", what, e, len(got), want)
 	}
 }
+
+// wantThroughNone asks that no terms leave a leakage as it was, whatever it is.
+func wantThroughNone(t *testing.T, what string, l list) {
+	t.Helper()
+	for _, none := range [][][]api.Term{nil, {}} {
+		for _, broken := range []bool{false, true} {
+			if got, e := leak.Through(none, l, 1000, broken); e != api.OK || !leak.Same(got, l) {
+				t.Errorf("Through of none, of %s: %v, and %d nodes", what, e, len(got))
+			}
+		}
+	}
+}

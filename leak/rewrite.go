@@ -24,10 +24,11 @@ func Rewrite(t []api.Term, l []api.Leak, stack uint64, broken bool) ([]api.Leak,
 
 // Through is a leakage rewritten by several lists of terms, one behind the other.
 func Through(all [][]api.Term, l []api.Leak, stack uint64, broken bool) ([]api.Leak, api.Errno) {
-	if errno := check(l); errno != api.OK {
-		return nil, errno
+	if len(all) == 0 {
+		// Only a rewriting refuses: where there is none, a leakage that may not be is answered, too.
+		return copyList(l), api.OK
 	}
-	out := copyList(l)
+	out := l
 	for _, t := range all {
 		var errno api.Errno
 		if out, errno = Rewrite(t, out, stack, broken); errno != api.OK {
