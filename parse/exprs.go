@@ -12,8 +12,14 @@ func (p *parser) onlyExpr() api.Expr {
 	return e
 }
 
+// isExpr tells whether the token at hand begins an expression.
+func (p *parser) isExpr() bool {
+	kind := p.here().Kind
+	return kind == api.TokenName || kind == api.TokenNumber || p.is("~") || p.is("-") || p.is("(") || p.is("pick")
+}
+
 func (p *parser) expr() api.Expr {
-	p.begin()
+	p.begin(p.isExpr())
 	defer p.done()
 	switch {
 	case p.here().Kind == api.TokenNumber:

@@ -89,7 +89,7 @@ type link struct {
 type path struct {
 	todo   *link
 	within int // how many expressions and statements are begun
-	deep   int // at which token one began that stands within too many others; -1: at none
+	deep   int // with which token one begins that stands within too many others, if that token fits; -1: with none
 }
 
 // leave, among words, ends an expression or a statement.
@@ -153,13 +153,13 @@ func model(rule, text string) api.Fault {
 		var next []path
 		for _, p := range paths {
 			for _, q := range spread(p, i) {
-				if q.deep >= 0 && (nest < 0 || q.deep < nest) {
+				can := q.todo == nil && t.Kind == 0 || q.todo != nil && fits(q.todo.word, t)
+				// What is too deep has begun further ahead, or begins here, with a token that fits.
+				if q.deep >= 0 && (q.deep < i || can) && (nest < 0 || q.deep < nest) {
 					nest = q.deep
 				}
-				if q.todo == nil && t.Kind == 0 {
-					on = on || q.deep < 0
-				} else if q.todo != nil && fits(q.todo.word, t) {
-					on = on || q.deep < 0
+				on = on || can && q.deep < 0
+				if can && q.todo != nil {
 					next = append(next, path{q.todo.next, q.within, q.deep})
 				}
 			}

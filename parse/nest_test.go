@@ -1,6 +1,8 @@
 package parse_test
 
 import (
+	"math/rand"
+	"slices"
 	"strings"
 	"testing"
 
@@ -169,26 +171,125 @@ func TestVeryDeep(t *testing.T) {
 	wantExprFault(t, strings.Repeat("~\n", 1000), nest(65, 1))
 }
 
-// P6.1: ErrSyntax and ErrNest, at one token, and each ahead of the other.
+// exprBegins are those of someTokens with which an expression begins; stmtBegins likewise.
+func exprBegins() []string {
+	return strings.Fields("pick ( - ~ x forx 0 7 2147483647 2147483648 18446744073709551615")
+}
+
+func stmtBegins() []string {
+	return strings.Fields("if while for x forx")
+}
+
+// tooDeep is what is wrong with a token in a place that is too deep, if it begins what may stand there, and if it does not.
+func tooDeep(begins bool) api.Errno {
+	if begins {
+		return api.ErrNest
+	}
+	return api.ErrSyntax
+}
+
+// wantTooDeep wants that at the mark of a text of statements, by themselves and in a function.
+func wantTooDeep(t *testing.T, begins bool, marked string) {
+	t.Helper()
+	why := tooDeep(begins)
+	text, want := at(why, marked)
+	wantStmtsFault(t, text, want)
+	text, want = at(why, "fn f() {\n"+marked)
+	wantFault(t, text, want)
+}
+
+// aheads are what stands ahead of a place for an expression that would stand within so many others, by each way. The innermost way is one in which that place is the first one: any other is as deep.
+func aheads(n int) []string {
+	var l []string
+	for _, w := range exprWays() {
+		for _, last := range []string{"~", "-", "r[", "(", "pick("} {
+			l = append(l, strings.Repeat(unmarked(w.ahead), n-1)+last)
+		}
+	}
+	return l
+}
+
+// P6.1: each token in a place for an expression that would stand within 64 others, by each way: only one with which an expression begins is too deep there.
+func TestTokensTooDeepForExprs(t *testing.T) {
+	fors := strings.Repeat("for i 0 1 {", 63)
+	for _, x := range someTokens() {
+		begins := slices.Contains(exprBegins(), x)
+		for _, behind := range []string{"", "\n) x"} {
+			for _, ahead := range aheads(64) {
+				text, want := at(tooDeep(begins), ahead+" @"+x+behind)
+				wantExprFault(t, text, want)
+			}
+			for _, ahead := range aheads(63) {
+				wantTooDeep(t, begins, "while "+ahead+" @"+x+behind)
+			}
+			wantTooDeep(t, begins, fors+"x = @"+x+behind)
+			wantTooDeep(t, begins, fors+"x[ @"+x+behind)
+			wantTooDeep(t, begins, fors+"if @"+x+behind)
+			wantTooDeep(t, begins, fors+"while @"+x+behind)
+			if x != ")" {
+				wantTooDeep(t, begins, fors+"f( @"+x+behind)
+				wantTooDeep(t, begins, fors+"x = f( @"+x+behind)
+				wantTooDeep(t, begins, fors+"x, y = f( @"+x+behind)
+			}
+		}
+	}
+}
+
+// P6.1: each token in a block within 64 statements, by each way: only one with which a statement begins is too deep there.
+func TestTokensTooDeepForStmts(t *testing.T) {
+	for _, ahead := range []string{"for i 0 1 {", "while 1 {", "if 1 {", "if 1 { } else {"} {
+		// The last one is a for: a condition of its own would be too deep.
+		fors := strings.Repeat(ahead, 63) + "for i 0 1 {"
+		for _, x := range someTokens() {
+			if x == "}" {
+				continue
+			}
+			begins := slices.Contains(stmtBegins(), x)
+			for _, behind := range []string{"", " x", " ;", "\n)", "[1] = 2;"} {
+				wantTooDeep(t, begins, fors+" @"+x+behind)
+				wantTooDeep(t, begins, fors+" } for i 0 1 { @"+x+behind)
+			}
+		}
+	}
+}
+
+// P6.1: the text's end begins nothing: it is never too deep.
+func TestEndsTooDeep(t *testing.T) {
+	for _, behind := range []string{"", "\n", " # a note", "\n\n\t"} {
+		end := func(text string) api.Fault {
+			return syntax(strings.Count(text, "\n")+1, len(text)-strings.LastIndex(text, "\n"))
+		}
+		for _, ahead := range aheads(64) {
+			text := ahead + behind
+			wantExprFault(t, text, end(text))
+		}
+		for _, last := range []string{"for i 0 1 {", "f(", "x = f(", "x, y = f(", "x = ", "x[", "if", "while"} {
+			text := strings.Repeat("for i 0 1 {", 63) + last + behind
+			wantStmtsFault(t, text, end(text))
+			wantFault(t, "fn f() {"+text, end("fn f() {"+text))
+		}
+	}
+	// Signs of all kinds, and nothing behind them.
+	r := rand.New(rand.NewSource(66))
+	for range 200 {
+		var b strings.Builder
+		for range 64 {
+			b.WriteByte("~-"[r.Intn(2)])
+		}
+		wantExprFault(t, b.String(), syntax(1, 65))
+		wantExprFault(t, b.String()+"\n]", syntax(2, 1))
+		wantExprFault(t, b.String()+" -", nest(1, 66))
+	}
+}
+
+// P6.1: ErrSyntax and ErrNest, each ahead of the other.
 func TestNestAndSyntax(t *testing.T) {
 	nots, fors := strings.Repeat("~", 64), strings.Repeat("for i 0 1 { ", 64)
-	for _, x := range someTokens() {
-		// Whatever stands where an expression should: it would stand within too many others.
-		wantExprFault(t, nots+" "+x, nest(1, 66))
-		wantStmtsFault(t, "x = "+nots[1:]+" "+x, nest(1, 69))
-		wantStmtsFault(t, "f(1, "+nots[1:]+" "+x, nest(1, 70))
-		if x != "}" {
-			wantStmtsFault(t, fors+x, nest(1, 64*12+1))
-		}
-		wantStmtsFault(t, fors[12:]+"x["+x, nest(1, 63*12+3))
-		wantStmtsFault(t, fors[12:]+"if "+x, nest(1, 63*12+4))
-	}
-	wantExprFault(t, nots, nest(1, 65))
-	wantExprFault(t, nots+"\n", nest(2, 1))
 	// ErrNest ahead.
 	wantExprFault(t, nots+"x)", nest(1, 65))
 	wantExprFault(t, nots+"x x", nest(1, 65))
 	wantExprFault(t, nots+"f(1)", nest(1, 65))
+	wantExprFault(t, nots+"pick x", nest(1, 65))
 	wantStmtsFault(t, "x = "+nots+"x", nest(1, 4+64))
 	wantFault(t, "fn f() { x = "+nots+"x; } ;", nest(1, 13+64))
 	wantFault(t, "fn f() { "+fors+"f() fn", nest(1, 10+64*12))
@@ -196,11 +297,14 @@ func TestNestAndSyntax(t *testing.T) {
 	wantExprFault(t, "(x "+nots+"x)", syntax(1, 4))
 	wantExprFault(t, "x "+nots+"x", syntax(1, 3))
 	wantExprFault(t, nots[1:]+") "+nots+"x", syntax(1, 64))
+	wantExprFault(t, nots+") x", syntax(1, 65))
 	wantStmtsFault(t, "; "+fors, syntax(1, 1))
 	wantStmtsFault(t, fors[12:]+"; "+fors, syntax(1, 63*12+1))
+	wantStmtsFault(t, fors+"; x", syntax(1, 64*12+1))
 	wantFault(t, "fn f( { x = "+nots+"x; }", syntax(1, 7))
 	// A call's name is no expression, and its parentheses may be empty; what is no call is one.
-	wantStmtsFault(t, fors[12:]+"x = f(", nest(1, 63*12+7))
+	wantStmtsFault(t, fors[12:]+"x = f(1", nest(1, 63*12+7))
+	wantStmtsFault(t, fors[12:]+"x = f(,", syntax(1, 63*12+7))
 	wantStmtsFault(t, fors[12:]+"x = f(); ]", syntax(1, 63*12+10))
 	wantStmtsFault(t, fors[12:]+"x, y = f;", syntax(1, 63*12+9))
 	wantStmtsFault(t, fors[12:]+"x = f;", nest(1, 63*12+5))

@@ -95,8 +95,11 @@ func (p *parser) size() int {
 	return int(p.number())
 }
 
-// begin goes into an expression or a statement: how deep that is is asked first, whatever the token at hand is.
-func (p *parser) begin() {
+// begin goes into an expression or a statement, if the token at hand begins one: how deep it would be is not asked of a token that begins none.
+func (p *parser) begin(begins bool) {
+	if !begins {
+		panic(p.wrong(api.ErrSyntax))
+	}
 	if p.within == api.MaxNest {
 		panic(p.wrong(api.ErrNest))
 	}

@@ -19,8 +19,13 @@ func (p *parser) bodyEnd() []api.Stmt {
 	return l
 }
 
+// isStmt tells whether the token at hand begins a statement.
+func (p *parser) isStmt() bool {
+	return p.here().Kind == api.TokenName || p.is("if") || p.is("while") || p.is("for")
+}
+
 func (p *parser) stmt() api.Stmt {
-	p.begin()
+	p.begin(p.isStmt())
 	defer p.done()
 	switch {
 	case p.take("if"):
