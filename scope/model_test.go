@@ -10,6 +10,7 @@ import (
 )
 
 // model tells May anew: all faults of a program are gathered, in any order, each with the place at which it is asked; then the first one is taken.
+// A place begins with the number of the question, of 1 to 5; of a statement then comes the function's number, and where in it the statement stands.
 type model struct {
 	p      api.Program
 	faults []fault
@@ -41,14 +42,14 @@ func (m *model) wrong(is bool, errno api.Errno, at ...int) {
 }
 
 func (m *model) counts() {
-	m.wrong(len(m.p.Regions) > 16 || len(m.p.Funcs) < 1 || len(m.p.Funcs) > 32 || modelSize(m.p) > 65536, api.ErrMany, 0)
+	m.wrong(len(m.p.Regions) > 16 || len(m.p.Funcs) < 1 || len(m.p.Funcs) > 32 || modelSize(m.p) > 65536, api.ErrMany, 1)
 	for _, r := range m.p.Regions {
-		m.wrong(r.Size < 1 || r.Size > 512, api.ErrMany, 0)
+		m.wrong(r.Size < 1 || r.Size > 512, api.ErrMany, 1)
 	}
 	for _, f := range m.p.Funcs {
-		m.wrong(len(f.Params)+len(f.Vars) > 64 || len(f.Rets) > 64, api.ErrMany, 0)
+		m.wrong(len(f.Params)+len(f.Vars) > 64 || len(f.Rets) > 64, api.ErrMany, 1)
 		for _, v := range append(slices.Clone(f.Params), f.Vars...) {
-			m.wrong((v.Kind == 2 || v.Kind == 3) && (v.Size < 1 || v.Size > 512), api.ErrMany, 0)
+			m.wrong((v.Kind == 2 || v.Kind == 3) && (v.Size < 1 || v.Size > 512), api.ErrMany, 1)
 		}
 	}
 }
@@ -56,17 +57,17 @@ func (m *model) counts() {
 func (m *model) regions() {
 	taken := map[int]bool{}
 	for i, r := range m.p.Regions {
-		m.wrong(!isName(r.Name) || slices.ContainsFunc(m.p.Regions[:i], func(o api.Region) bool { return o.Name == r.Name }), api.ErrName, 1, 0)
+		m.wrong(!isName(r.Name) || slices.ContainsFunc(m.p.Regions[:i], func(o api.Region) bool { return o.Name == r.Name }), api.ErrName, 2)
 		if r.Size < 1 || r.Size > 512 {
 			continue
 		}
 		if r.Addr < 0 || r.Addr > 49151 || r.Addr%8 > 0 || r.Addr+8*r.Size > 49152 {
-			m.wrong(true, api.ErrBounds, 1, 1)
+			m.wrong(true, api.ErrBounds, 3)
 			continue
 		}
 		// What begins at words' places meets by whole words.
 		for w := range r.Size {
-			m.wrong(taken[r.Addr/8+w], api.ErrBounds, 1, 1)
+			m.wrong(taken[r.Addr/8+w], api.ErrBounds, 3)
 			taken[r.Addr/8+w] = true
 		}
 	}
@@ -82,20 +83,20 @@ func (m *model) function(f int) {
 	for _, other := range m.p.Funcs[:f] {
 		global = append(global, other.Name)
 	}
-	m.wrong(!isName(fn.Name) || slices.Contains(global, fn.Name), api.ErrName, 2+f, 0)
+	m.wrong(!isName(fn.Name) || slices.Contains(global, fn.Name), api.ErrName, 2)
 	for i, v := range append(slices.Clone(fn.Params), fn.Vars...) {
-		m.wrong(!isName(v.Name) || slices.Contains(used, v.Name), api.ErrName, 2+f, 0)
+		m.wrong(!isName(v.Name) || slices.Contains(used, v.Name), api.ErrName, 2)
 		used = append(used, v.Name)
 		if v.Kind == 1 {
 			words = append(words, v.Name)
 		}
 		param := i < len(fn.Params)
-		m.wrong(v.Kind < 1 || v.Kind > 3 || param && v.Kind > 1 || v.Kind == 1 && (v.Size != 0 || v.Secret && !param), api.ErrKind, 2+f, 1)
+		m.wrong(v.Kind < 1 || v.Kind > 3 || param && v.Kind > 1 || v.Kind == 1 && (v.Size != 0 || v.Secret && !param), api.ErrKind, 4)
 	}
 	for i, r := range fn.Rets {
-		m.wrong(!slices.Contains(words, r) || slices.Contains(fn.Rets[:i], r), api.ErrName, 2+f, 0)
+		m.wrong(!slices.Contains(words, r) || slices.Contains(fn.Rets[:i], r), api.ErrName, 2)
 	}
-	m.stmts(f, fn.Body, nil, 2+f, 2)
+	m.stmts(f, fn.Body, nil, 5, f)
 }
 
 func (m *model) stmts(f int, l stmts, around []string, at ...int) {

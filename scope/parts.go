@@ -34,12 +34,36 @@ func mustBeFew(p api.Program) {
 	few(Size(p), 0, api.MaxSize)
 }
 
-// mustBeRegions asks of regions, each of a Size that may be, their names, then where they lie.
-func mustBeRegions(l []api.Region) {
-	name := names()
-	for _, r := range l {
-		name(r.Name)
+// mustBeNamed asks of the whole program its names: those of regions and functions, and of each function those that it has within.
+func mustBeNamed(p api.Program) {
+	global := names()
+	for _, r := range p.Regions {
+		global(r.Name)
 	}
+	for _, f := range p.Funcs {
+		global(f.Name)
+		mustNameOwn(f, p.Regions)
+	}
+}
+
+// mustNameOwn asks of a function the names of its variables, which no region may have, and its Rets.
+func mustNameOwn(f api.Func, regions []api.Region) {
+	variable, ret := names(), names()
+	for _, r := range regions {
+		variable(r.Name)
+	}
+	vars := slices.Concat(f.Params, f.Vars)
+	for _, v := range vars {
+		variable(v.Name)
+	}
+	for _, name := range f.Rets {
+		ret(name)
+		must(slices.ContainsFunc(vars, func(v api.Var) bool { return v.Name == name && v.Kind == api.VarReg }), api.ErrName)
+	}
+}
+
+// mustLie asks of regions, each of a Size that may be, where they lie.
+func mustLie(l []api.Region) {
 	for i, r := range l {
 		// What is taken from StackLow is small; an end that is reckoned of any Addr could be too great for an int.
 		must(r.Addr >= 0 && r.Addr%wordBytes == 0 && r.Addr <= api.StackLow-bytesOf(r), api.ErrBounds)
@@ -51,26 +75,6 @@ func mustBeRegions(l []api.Region) {
 
 func bytesOf(r api.Region) int {
 	return r.Size * wordBytes
-}
-
-// mustBeNamed asks of the function f its name, which no region and no function ahead of it may have, and those of its variables and Rets.
-func mustBeNamed(p api.Program, f int) {
-	function, variable, ret := names(), names(), names()
-	for _, r := range p.Regions {
-		function(r.Name)
-		variable(r.Name)
-	}
-	for i := range p.Funcs[:f+1] {
-		function(p.Funcs[i].Name)
-	}
-	vars := slices.Concat(p.Funcs[f].Params, p.Funcs[f].Vars)
-	for _, v := range vars {
-		variable(v.Name)
-	}
-	for _, name := range p.Funcs[f].Rets {
-		ret(name)
-		must(slices.ContainsFunc(vars, func(v api.Var) bool { return v.Name == name && v.Kind == api.VarReg }), api.ErrName)
-	}
 }
 
 // names makes what asks of each name that it is handed, whether it is one, and new to it.
